@@ -1,0 +1,120 @@
+"""The interface of the document, and those rules of the language that a test can see plainly."""
+
+import ast
+import os
+import unittest
+import warnings
+
+import ticklay
+
+FOLDER = os.path.dirname(os.path.abspath(ticklay.__file__))
+
+INTERFACE = {
+    'tables': {'is_table': ['thing'], 'turned': ['table'], 'part': ['table', 'rows', 'columns'], 'ticks': ['table']},
+    'texts': {'format_table': ['table'], 'parse_table': ['text']},
+}
+
+LIBRARY = {
+    'heapq': {'heappush', 'heappop', 'heapify', 'heapreplace', 'heappushpop'},
+    'math': {'gcd', 'lcm', 'isqrt', 'comb', 'perm', 'factorial'},
+    'itertools': {'product', 'combinations', 'permutations', 'chain', 'accumulate', 'pairwise', 'islice',
+                  'zip_longest'},
+    'collections': {'defaultdict', 'deque'},
+}
+
+
+def texts_by_name():
+    texts = {}
+    for name in sorted(os.listdir(FOLDER)):
+        if name != '__pycache__':
+            with open(os.path.join(FOLDER, name), encoding='utf-8') as file:
+                texts[name] = file.read()
+    return texts
+
+
+def imported(tree):
+    """The modules of the package that a file imports from."""
+    names = [node.module for node in tree.body if isinstance(node, ast.ImportFrom)]
+    return [name.split('.')[1] for name in names if name.startswith('ticklay.')]
+
+
+class Language(unittest.TestCase):
+    def setUp(self):
+        self.texts = texts_by_name()
+        self.trees = {name: ast.parse(text) for name, text in self.texts.items()}
+
+    def test_only_python_files(self):
+        self.assertIn('__init__.py', self.texts)
+        for name in self.texts:
+            self.assertRegex(name, r'^[a-z_][a-z0-9_]*\.py$')
+
+    def test_interface_stands_in_its_files(self):
+        for name, functions in INTERFACE.items():
+            found = {node.name: [arg.arg for arg in node.args.args]
+                     for node in self.trees[name + '.py'].body if isinstance(node, ast.FunctionDef)}
+            for function, parameters in functions.items():
+                self.assertEqual(found.get(function), parameters, function)
+
+    def test_sizes_and_signs(self):
+        for name, text in self.texts.items():
+            lines = text.split('\n')
+            self.assertLessEqual(len(lines), 400, name)
+            for line in lines:
+                self.assertLessEqual(len(line), 120, name)
+                self.assertTrue(all(' ' <= sign <= '~' for sign in line), (name, line))
+            for node in ast.walk(self.trees[name]):
+                if isinstance(node, ast.FunctionDef):
+                    self.assertLessEqual(node.end_lineno - node.lineno + 1, 40, (name, node.name))
+
+    def test_imports_stand_at_the_top_and_are_allowed(self):
+        for name, tree in self.trees.items():
+            behind = False
+            for node in tree.body:
+                self.assertNotIsInstance(node, ast.Import, name)
+                if isinstance(node, ast.ImportFrom):
+                    self.assertFalse(behind, name)
+                    self.check_import(name, node)
+                else:
+                    behind = behind or not isinstance(node, ast.Expr)
+            inner = [node for node in ast.walk(tree) if isinstance(node, (ast.Import, ast.ImportFrom))]
+            self.assertEqual(len(inner), len([node for node in tree.body if node in inner]), name)
+
+    def check_import(self, name, node):
+        self.assertEqual(node.level, 0, name)
+        told = {alias.name for alias in node.names}
+        if node.module.startswith('ticklay.'):
+            source = self.trees[node.module.split('.')[1] + '.py']
+            defined = {part.name for part in source.body if isinstance(part, (ast.FunctionDef, ast.ClassDef))}
+            for part in source.body:
+                if isinstance(part, ast.Assign):
+                    defined |= {target.id for target in part.targets}
+            self.assertLessEqual(told, defined, name)
+        elif node.module != '__future__':
+            self.assertLessEqual(told, LIBRARY.get(node.module, set()), name)
+
+    def test_no_two_files_import_from_each_other(self):
+        reached = {name[:-3]: set(imported(tree)) for name, tree in self.trees.items()}
+        for _ in reached:
+            for name in reached:
+                reached[name] = reached[name].union(*[reached[other] for other in reached[name]])
+        for name in reached:
+            self.assertNotIn(name, reached[name])
+            if name != '__init__':
+                self.assertNotIn('__init__', reached[name])
+
+    def test_no_warnings(self):
+        for name, text in self.texts.items():
+            with warnings.catch_warnings():
+                warnings.simplefilter('error')
+                compile(text, name, 'exec')
+
+    def test_no_barred_statements(self):
+        barred = (ast.AsyncFunctionDef, ast.Await, ast.Div, ast.MatMult)
+        for name, tree in self.trees.items():
+            for node in ast.walk(tree):
+                self.assertNotIsInstance(node, barred, name)
+                if isinstance(node, ast.Constant):
+                    self.assertNotIsInstance(node.value, (float, complex), name)
+                if isinstance(node, ast.FunctionDef):
+                    self.assertLessEqual({mark.id for mark in node.decorator_list if isinstance(mark, ast.Name)},
+                                         {'property', 'staticmethod', 'classmethod'}, name)

@@ -1,0 +1,1 @@
+"""Ticklay: tables of ticks without long rings."""
