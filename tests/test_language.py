@@ -12,6 +12,10 @@ FOLDER = os.path.dirname(os.path.abspath(ticklay.__file__))
 INTERFACE = {
     'tables': {'is_table': ['thing'], 'turned': ['table'], 'part': ['table', 'rows', 'columns'], 'ticks': ['table']},
     'texts': {'format_table': ['table'], 'parse_table': ['text']},
+    'rings': {'is_ring': ['table', 'thing'], 'ring': ['table'], 'odd_ring': ['table']},
+    'arrangements': {'squares': ['table'], 'is_arrangement': ['table', 'thing'], 'arrangement': ['table']},
+    'lexical': {'is_lexical': ['table', 'thing'], 'lexical': ['table']},
+    'nests': {'nests': ['table', 'columns'], 'taken_away': ['table'], 'core': ['table']},
 }
 
 LIBRARY = {

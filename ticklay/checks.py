@@ -1,4 +1,4 @@
-"""Checks of integers, indexes and lines, for any objects."""
+"""Checks of integers, indexes, lines and orders, for any objects."""
 
 
 def is_integer(thing):
@@ -21,3 +21,24 @@ def are_lines(thing, count):
     if not are_indexes(thing, count) or len(thing) == 0:
         return False
     return len(set(thing)) == len(thing)
+
+
+def are_ascending(thing, count):
+    """Return whether any object is an ascending tuple of different indexes, perhaps ()."""
+    if not are_indexes(thing, count):
+        return False
+    return all([thing[at - 1] < thing[at] for at in range(1, len(thing))])
+
+
+def are_crossed(thing, height, width):
+    """Return whether any object is a tuple (rows, columns) of lines."""
+    if not isinstance(thing, tuple) or len(thing) != 2:
+        return False
+    return are_lines(thing[0], height) and are_lines(thing[1], width)
+
+
+def is_order(table, thing):
+    """Return whether any object is an order of a table."""
+    if not are_crossed(thing, len(table), len(table[0])):
+        return False
+    return len(thing[0]) == len(table) and len(thing[1]) == len(table[0])
