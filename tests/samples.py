@@ -95,6 +95,22 @@ def road_table(rnd, height, width):
     return shuffled(rnd, tuple(rows))
 
 
+def squareless_table(rnd, height, width, share):
+    """Return a table without a ring: some table, with ticks put until it has no square, in another order."""
+    signs = [list(row) for row in some_table(rnd, height, width, share)]
+    places = [(row, other_row, column, other_column)
+              for row in range(height) for other_row in range(row + 1, height)
+              for column in range(width) for other_column in range(column + 1, width)]
+    more = True
+    while more:
+        more = False
+        for row, other_row, column, other_column in places:
+            if signs[row][column] == signs[row][other_column] == signs[other_row][column] == 'x':
+                more = more or signs[other_row][other_column] == '.'
+                signs[other_row][other_column] = 'x'
+    return shuffled(rnd, tuple(''.join(row) for row in signs))
+
+
 def shuffled(rnd, table):
     """Return a table with its rows and columns in some other order."""
     rows = list(range(len(table)))

@@ -1,6 +1,7 @@
 """The interface of the document, and those rules of the language that a test can see plainly."""
 
 import ast
+import builtins
 import os
 import unittest
 import warnings
@@ -16,6 +17,13 @@ INTERFACE = {
     'arrangements': {'squares': ['table'], 'is_arrangement': ['table', 'thing'], 'arrangement': ['table']},
     'lexical': {'is_lexical': ['table', 'thing'], 'lexical': ['table']},
     'nests': {'nests': ['table', 'columns'], 'taken_away': ['table'], 'core': ['table']},
+    'choices': {'cost': ['table', 'prices', 'fines', 'choice'], 'are_weights': ['table', 'prices', 'fines', 'thing'],
+                'is_paper': ['table', 'prices', 'fines', 'thing']},
+    'going': {'go': ['table', 'prices', 'fines', 'arrangement']},
+    'cheapest': {'cheapest': ['table', 'prices', 'fines'], 'heaviest': ['table', 'prices', 'fines'],
+                 'paper': ['table', 'prices', 'fines'], 'gap': ['table', 'prices', 'fines']},
+    'worth': {'worth': ['table', 'prices', 'fines', 'column'], 'in_each': ['table', 'prices', 'fines'],
+              'in_some': ['table', 'prices', 'fines']},
 }
 
 LIBRARY = {
@@ -111,6 +119,25 @@ class Language(unittest.TestCase):
             with warnings.catch_warnings():
                 warnings.simplefilter('error')
                 compile(text, name, 'exec')
+
+    def test_names_of_builtins_and_imports_mean_nothing_else(self):
+        for name, tree in self.trees.items():
+            told = {alias.name for node in tree.body if isinstance(node, ast.ImportFrom) for alias in node.names}
+            barred = told | set(dir(builtins)) - {'__doc__', '__name__'}
+            for node in ast.walk(tree):
+                if isinstance(node, ast.arg):
+                    self.assertNotIn(node.arg, barred, name)
+                elif isinstance(node, (ast.FunctionDef, ast.ClassDef)):
+                    self.assertNotIn(node.name, barred, name)
+                elif isinstance(node, ast.Name) and not isinstance(node.ctx, ast.Load):
+                    self.assertNotIn(node.id, barred, name)
+
+    def test_each_import_is_used(self):
+        for name, tree in self.trees.items():
+            read = {node.id for node in ast.walk(tree) if isinstance(node, ast.Name)}
+            for node in tree.body:
+                if isinstance(node, ast.ImportFrom):
+                    self.assertLessEqual({alias.name for alias in node.names}, read, name)
 
     def test_no_barred_statements(self):
         barred = (ast.AsyncFunctionDef, ast.Await, ast.Div, ast.MatMult)

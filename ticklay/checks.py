@@ -1,4 +1,6 @@
-"""Checks of integers, indexes, lines and orders, for any objects."""
+"""Checks of integers, amounts, indexes, lines and orders, for any objects."""
+
+MOST_AMOUNT = 999
 
 
 def is_integer(thing):
@@ -6,9 +8,21 @@ def is_integer(thing):
     return isinstance(thing, int) and not isinstance(thing, bool)
 
 
+def is_integer_to(thing, most):
+    """Return whether any object is an integer from 0 to most."""
+    return is_integer(thing) and 0 <= thing <= most
+
+
+def are_amounts(thing, count):
+    """Return whether any object is a tuple of so many prices, or fines."""
+    if not isinstance(thing, tuple) or len(thing) != count:
+        return False
+    return all([is_integer_to(item, MOST_AMOUNT) for item in thing])
+
+
 def is_index(thing, count):
     """Return whether any object is an index of one of count things."""
-    return is_integer(thing) and 0 <= thing < count
+    return is_integer_to(thing, count - 1)
 
 
 def are_indexes(thing, count):

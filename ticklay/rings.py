@@ -1,7 +1,7 @@
 """Rings: rows and columns, three or more of each, that run round and end where they began."""
 
 from ticklay.checks import are_crossed
-from ticklay.tables import TICK, check_table, had
+from ticklay.tables import check_table, had, rows_with
 
 LEAST = 3
 
@@ -75,8 +75,3 @@ def ring_from_row(table, rows, columns, step):
             if found is not None:
                 return found
     return None
-
-
-def rows_with(table, rows, column):
-    """Return the list of those of some rows that have a column, in their order."""
-    return [row for row in rows if table[row][column] == TICK]

@@ -40,6 +40,11 @@ def had(table, row, columns):
     return [column for column in columns if table[row][column] == TICK]
 
 
+def rows_with(table, rows, column):
+    """Return the list of those of some rows that have a column, in their order."""
+    return [row for row in rows if table[row][column] == TICK]
+
+
 def turned(table):
     """Return the table whose rows are the columns of a table."""
     check_table(table)
