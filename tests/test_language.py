@@ -24,6 +24,10 @@ INTERFACE = {
                  'paper': ['table', 'prices', 'fines'], 'gap': ['table', 'prices', 'fines']},
     'worth': {'worth': ['table', 'prices', 'fines', 'column'], 'in_each': ['table', 'prices', 'fines'],
               'in_some': ['table', 'prices', 'fines']},
+    'fewest': {'fewest_columns': ['table'], 'most_apart': ['table']},
+    'trees': {'is_tree': ['thing'], 'far': ['tree', 'node', 'other'], 'ball_table': ['tree', 'balls']},
+    'alike': {'match_of': ['table', 'other'], 'is_match': ['table', 'other', 'thing'],
+              'are_alike': ['table', 'other']},
 }
 
 LIBRARY = {
