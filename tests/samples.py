@@ -216,3 +216,26 @@ def check_new_lists(test, call):
     first.reverse()
     test.assertEqual(call(), kept)
     test.assertIsNot(call(), call())
+
+
+NEAR_PARTS = (-1, -2, 0, 1, 2, 8, 10 ** 39, -10 ** 39, True, False, None, '', '0', (), (0,), [], [0], {}, {0: 0})
+
+
+def near_tuples(good, parts=NEAR_PARTS):
+    """Things near a tuple: each part exchanged, left out or put in twice, and the whole of another kind."""
+    things = [list(good), dict(enumerate(good)), (good,), [good], good[::-1], good + good, (), good[:1], None]
+    for at in range(len(good)):
+        things += [good[:at] + good[at + 1:], good[:at + 1] + good[at:], good[at:] + good[:at], good[at]]
+        things += [good[:at] + (part,) + good[at + 1:] for part in parts]
+        if isinstance(good[at], int) and not isinstance(good[at], bool):
+            things += [good[:at] + (good[at] + more,) + good[at + 1:] for more in (-1, 1)]
+    for part in parts:
+        things += [good + (part,), (part,) + good]
+    return things
+
+
+def exchanged_at(table, row, column, sign):
+    """Return a table with another sign at a place."""
+    signs = [list(line) for line in table]
+    signs[row][column] = sign
+    return tuple(''.join(line) for line in signs)

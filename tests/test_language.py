@@ -28,6 +28,16 @@ INTERFACE = {
     'trees': {'is_tree': ['thing'], 'far': ['tree', 'node', 'other'], 'ball_table': ['tree', 'balls']},
     'alike': {'match_of': ['table', 'other'], 'is_match': ['table', 'other', 'thing'],
               'are_alike': ['table', 'other']},
+    'mending': {'fewest_strikes': ['table'], 'fewest_put': ['table']},
+    'ladders': {'ladder': ['table', 'order', 'square']},
+}
+
+# Methods and properties of the classes, each by its file.
+CLASSES = {
+    'live': {'Live': ({'__init__': ['self', 'table'], '__len__': ['self'], 'put': ['self', 'row', 'column'],
+                       'strike': ['self', 'row', 'column'], 'undo': ['self'], 'redo': ['self'],
+                       'paper': ['self', 'prices', 'fines'], 'copy': ['self']}, ['table', 'ring', 'arrangement'])},
+    'shell': {'Shell': ({'__init__': ['self'], 'run': ['self', 'line']}, [])},
 }
 
 LIBRARY = {
@@ -36,6 +46,29 @@ LIBRARY = {
     'itertools': {'product', 'combinations', 'permutations', 'chain', 'accumulate', 'pairwise', 'islice',
                   'zip_longest'},
     'collections': {'defaultdict', 'deque'},
+}
+
+# The builtins that may be used, but for those that no file needs (L8).
+BUILTINS = {
+    'len', 'range', 'enumerate', 'zip', 'min', 'max', 'sum', 'abs', 'sorted', 'reversed', 'int', 'str', 'bool', 'list',
+    'tuple', 'dict', 'set', 'isinstance', 'ord', 'repr', 'any', 'all', 'divmod', 'ValueError', 'KeyError',
+    'ZeroDivisionError',
+}
+
+# The methods of values of Python's own that may be called (L25).
+METHODS = {
+    'append', 'clear', 'copy', 'count', 'endswith', 'extend', 'find', 'get', 'index', 'insert', 'isalnum', 'isalpha',
+    'isdigit', 'islower', 'isspace', 'isupper', 'items', 'join', 'keys', 'ljust', 'lower', 'lstrip', 'partition', 'pop',
+    'remove', 'replace', 'reverse', 'rfind', 'rjust', 'rpartition', 'rsplit', 'rstrip', 'setdefault', 'split',
+    'splitlines', 'startswith', 'strip', 'update', 'upper', 'values', 'zfill', 'bit_length',
+}
+
+# Names that stand nowhere (L17).
+BARRED = {
+    'mro', 'elements', 'open', 'input', 'law', 'version_info', 'with_traceback', 'add_note', 'register', 'attrgetter',
+    'breakpoint', 'builtins', 'compile', 'copyright', 'credits', 'delattr', 'dir', 'eval', 'exec', 'exit', 'gc',
+    'getattr', 'globals', 'hasattr', 'help', 'id', 'importlib', 'license', 'locals', 'methodcaller', 'os', 'quit',
+    'setattr', 'super', 'type', 'vars', 'sys',
 }
 
 
@@ -70,6 +103,20 @@ class Language(unittest.TestCase):
                      for node in self.trees[name + '.py'].body if isinstance(node, ast.FunctionDef)}
             for function, parameters in functions.items():
                 self.assertEqual(found.get(function), parameters, function)
+
+    def test_classes_stand_in_their_files(self):
+        for name, classes in CLASSES.items():
+            found = {node.name: node for node in self.trees[name + '.py'].body if isinstance(node, ast.ClassDef)}
+            for told, (methods, properties) in classes.items():
+                functions = [node for node in found[told].body if isinstance(node, ast.FunctionDef)]
+                plain = {node.name: [arg.arg for arg in node.args.args]
+                         for node in functions if not node.decorator_list}
+                for method, parameters in methods.items():
+                    self.assertEqual(plain.get(method), parameters, (told, method))
+                marked = {node.name: [mark.id for mark in node.decorator_list]
+                          for node in functions if node.decorator_list}
+                for one in properties:
+                    self.assertEqual(marked.get(one), ['property'], (told, one))
 
     def test_sizes_and_signs(self):
         for name, text in self.texts.items():
@@ -135,6 +182,31 @@ class Language(unittest.TestCase):
                     self.assertNotIn(node.name, barred, name)
                 elif isinstance(node, ast.Name) and not isinstance(node.ctx, ast.Load):
                     self.assertNotIn(node.id, barred, name)
+
+    def test_builtins_and_methods_that_are_used(self):
+        own = {node.name for tree in self.trees.values() for node in ast.walk(tree)
+               if isinstance(node, ast.FunctionDef)}
+        for name, tree in self.trees.items():
+            for node in ast.walk(tree):
+                if isinstance(node, ast.Name) and node.id in dir(builtins):
+                    self.assertIn(node.id, BUILTINS | {'property'}, name)
+                if isinstance(node, ast.Call) and isinstance(node.func, ast.Attribute):
+                    self.assertIn(node.func.attr, METHODS | own, name)
+
+    def test_no_barred_names(self):
+        for name, tree in self.trees.items():
+            for node in ast.walk(tree):
+                for part in ('id', 'name', 'arg', 'attr'):
+                    self.assertNotIn(getattr(node, part, None), BARRED, name)
+                if isinstance(node, ast.Constant) and isinstance(node.value, str):
+                    self.assertNotIn('%', node.value, name)
+
+    def test_properties_are_not_assigned(self):
+        told = {one for classes in CLASSES.values() for _, properties in classes.values() for one in properties}
+        for name, tree in self.trees.items():
+            for node in ast.walk(tree):
+                if isinstance(node, ast.Attribute) and not isinstance(node.ctx, ast.Load):
+                    self.assertNotIn(node.attr, told, name)
 
     def test_each_import_is_used(self):
         for name, tree in self.trees.items():

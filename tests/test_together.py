@@ -7,13 +7,20 @@ from tests.cost_samples import any_priced, ringless_priced, small_priced
 from tests.judges import in_order_by_hand, judge_lexical
 from tests.samples import GOOD, many_tables, small_tables, squareless_table
 from ticklay.alike import are_alike
-from ticklay.arrangements import arrangement
+from ticklay.arrangements import arrangement, is_arrangement, squares
 from ticklay.cheapest import cheapest, gap, heaviest, paper
 from ticklay.choices import cost, is_paper
 from ticklay.fewest import fewest_columns, most_apart
 from ticklay.going import go
+from ticklay.ladders import ladder
 from ticklay.lexical import lexical
-from ticklay.rings import ring
+from ticklay.live import Live
+from ticklay.mending import fewest_put, fewest_strikes
+from ticklay.nests import core
+from ticklay.rings import is_ring, ring
+from ticklay.shell import Shell
+from ticklay.tables import part
+from ticklay.texts import format_table
 from ticklay.worth import in_each, in_some, worth
 
 
@@ -188,3 +195,94 @@ class OfTheSameTable(unittest.TestCase):
         for table in tables:
             ones = ((1,) * len(table[0]), (1,) * len(table))
             self.assertEqual(heaviest(table, *ones)[0], len(most_apart(table)), table)
+
+
+def shell_answers(table, prices, fines):
+    """What a shell answers of a table."""
+    shell = Shell()
+    shell.run('open it ' + format_table(table).replace('\n', '/'))
+    amounts = ','.join(str(price) for price in prices) + ' ' + ','.join(str(fine) for fine in fines)
+    return [shell.run(line) for line in ('show it', 'ring it', 'squares it', 'core it', 'cost it ' + amounts)]
+
+
+class LiveTablesAndShells(unittest.TestCase):
+    def test_what_they_tell_is_what_is_told_of_the_table(self):
+        for table, prices, fines in some_priced():
+            live = Live(table)
+            columns = ' '.join(str(column) for column in core(table))
+            self.assertEqual(shell_answers(table, prices, fines),
+                             ['/'.join(table), 'no' if ring(table) is None else 'yes', str(len(squares(table))),
+                              columns or 'none', str(least(table, prices, fines))])
+            self.assertEqual(live.table, table)
+            if live.ring is None:
+                self.assertIs(is_arrangement(table, live.arrangement), True)
+                self.assertIs(is_paper(table, prices, fines, live.paper(prices, fines)), True)
+                self.assertEqual(core(table), ())
+            else:
+                self.assertIs(is_ring(table, live.ring), True)
+                self.assertIsNone(live.arrangement)
+                self.assertLessEqual(set(live.ring[1]), set(core(table)))
+
+    def test_the_same_again_behind_other_tables(self):
+        found = []
+        for table, prices, fines in some_priced()[::2]:
+            live = Live(table)
+            found.append((live, live.ring, live.arrangement, shell_answers(table, prices, fines), lexical(table)))
+        for told, (table, prices, fines) in zip(found, some_priced()[::2]):
+            live = told[0]
+            self.assertEqual(told, (live, live.ring, live.arrangement, shell_answers(table, prices, fines),
+                                    lexical(table)))
+
+    def test_another_order(self):
+        rnd = random.Random(116)
+        for table, prices, fines in some_priced():
+            rows, columns = list(range(len(table))), list(range(len(prices)))
+            rnd.shuffle(rows)
+            rnd.shuffle(columns)
+            other = (part(table, tuple(rows), tuple(columns)), tuple(prices[column] for column in columns),
+                     tuple(fines[row] for row in rows))
+            one, two = shell_answers(table, prices, fines), shell_answers(*other)
+            self.assertEqual((one[1], one[4]), (two[1], two[4]))
+            moved = sorted(columns.index(column) for column in core(table))
+            self.assertEqual(two[3], ' '.join(str(column) for column in moved) or 'none')
+
+    def test_a_live_table_told_at_each_step_back_and_forth(self):
+        rnd = random.Random(117)
+        for table, prices, fines in some_priced()[::4]:
+            live = Live(table)
+            told = []
+            for _ in range(8):
+                told.append((live.table, live.ring, live.arrangement, shell_answers(live.table, prices, fines)))
+                row, column = rnd.randrange(len(table)), rnd.randrange(len(prices))
+                (live.strike if live.table[row][column] == 'x' else live.put)(row, column)
+            for before in told[::-1]:
+                live.undo()
+                self.assertEqual((live.table, live.ring, live.arrangement,
+                                  shell_answers(live.table, prices, fines)), before)
+
+
+class MendingAndLadders(unittest.TestCase):
+    def test_what_is_mended_has_an_arrangement(self):
+        rnd = random.Random(118)
+        for table in rnd.sample(small_tables(3, 3), 80) + [table for table in many_tables() if len(table) == 4][::4]:
+            if len(table[0]) <= 4:
+                live = Live(table)
+                for place in fewest_strikes(table):
+                    self.assertIsNotNone(live.ring)
+                    live.strike(*place)
+                self.assertIsNotNone(live.arrangement)
+                live = Live(table)
+                for place in fewest_put(table):
+                    self.assertIsNotNone(live.ring)
+                    live.put(*place)
+                self.assertIsNotNone(live.arrangement)
+
+    def test_the_rows_and_columns_of_a_ladder_are_a_ring_alone(self):
+        for table in many_tables()[::3]:
+            order = lexical(table)
+            for square in squares(part(table, *order))[:4]:
+                rows, columns = ladder(table, order, square)
+                alone = part(table, rows, columns)
+                found = ring(alone)
+                self.assertEqual((sorted(found[0]), sorted(found[1])), (list(range(len(rows))),) * 2)
+                self.assertEqual(core(alone), tuple(range(len(rows))))

@@ -35,6 +35,10 @@ def lexical(table):
 
 
 def sorted_lines(table, lines, places):
-    """Return lines so that they ascend, each read from the last one of some places on."""
+    """Return lines so that they ascend, each read from the last one of some places on.
+
+    Of equal lines the one with the lesser index stands ahead.
+    """
+    back = places[::-1]
     # A tick is written with a greater sign than a blank, so the texts compare as lines do.
-    return tuple(sorted(lines, key=lambda line: signs_at(table[line], places[::-1])))
+    return tuple([line for _, line in sorted([(signs_at(table[line], back), line) for line in lines])])

@@ -26,6 +26,11 @@ def runs_on(table, row, columns, at):
 def ring(table):
     """Return any ring of a table, or None if there is none."""
     check_table(table)
+    return find_ring(table)
+
+
+def find_ring(table):
+    """Return any ring of a table of which all is known to be right, or None if there is none."""
     return first_ring(table, 1)
 
 

@@ -45,6 +45,12 @@ def rows_with(table, rows, column):
     return [row for row in rows if table[row][column] == TICK]
 
 
+def places_of(table, sign):
+    """Return the ascending list of all places with a sign."""
+    columns = range(len(table[0]))
+    return [(row, column) for row in range(len(table)) for column in columns if table[row][column] == sign]
+
+
 def turned(table):
     """Return the table whose rows are the columns of a table."""
     check_table(table)
@@ -62,5 +68,4 @@ def part(table, rows, columns):
 def ticks(table):
     """Return the ascending list of all places with a tick."""
     check_table(table)
-    columns = tuple(range(len(table[0])))
-    return [(row, column) for row in range(len(table)) for column in had(table, row, columns)]
+    return places_of(table, TICK)
