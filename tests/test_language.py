@@ -30,6 +30,10 @@ INTERFACE = {
               'are_alike': ['table', 'other']},
     'mending': {'fewest_strikes': ['table'], 'fewest_put': ['table']},
     'ladders': {'ladder': ['table', 'order', 'square']},
+    'roads': {'by_nests': ['table', 'columns'], 'ball_order': ['tree', 'balls']},
+    'dues': {'worth_paper': ['table', 'prices', 'fines', 'column'],
+             'is_worth_paper': ['table', 'prices', 'fines', 'column', 'thing']},
+    'sheets': {'is_right': ['text'], 'ring_sheet': ['table'], 'paper_sheet': ['table', 'prices', 'fines']},
 }
 
 # Methods and properties of the classes, each by its file.
@@ -38,6 +42,11 @@ CLASSES = {
                        'strike': ['self', 'row', 'column'], 'undo': ['self'], 'redo': ['self'],
                        'paper': ['self', 'prices', 'fines'], 'copy': ['self']}, ['table', 'ring', 'arrangement'])},
     'shell': {'Shell': ({'__init__': ['self'], 'run': ['self', 'line']}, [])},
+    'desks': {'Desk': ({'__init__': ['self', 'table', 'prices', 'fines'], '__len__': ['self'],
+                        'put': ['self', 'row', 'column'], 'strike': ['self', 'row', 'column'],
+                        'price': ['self', 'column', 'number'], 'fine': ['self', 'row', 'number'], 'undo': ['self'],
+                        'redo': ['self'], 'begin': ['self'], 'keep': ['self'], 'drop': ['self'], 'best': ['self'],
+                        'copy': ['self']}, ['table', 'prices', 'fines', 'trials'])},
 }
 
 LIBRARY = {

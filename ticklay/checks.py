@@ -13,11 +13,16 @@ def is_integer_to(thing, most):
     return is_integer(thing) and 0 <= thing <= most
 
 
+def is_amount(thing):
+    """Return whether any object is an integer that a price, or a fine, may be."""
+    return is_integer_to(thing, MOST_AMOUNT)
+
+
 def are_amounts(thing, count):
     """Return whether any object is a tuple of so many prices, or fines."""
     if not isinstance(thing, tuple) or len(thing) != count:
         return False
-    return all([is_integer_to(item, MOST_AMOUNT) for item in thing])
+    return all([is_amount(item) for item in thing])
 
 
 def is_index(thing, count):

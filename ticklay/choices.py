@@ -39,6 +39,11 @@ def all_choices(count):
 def are_weights(table, prices, fines, thing):
     """Return whether any object is weights of a table."""
     check_amounts(table, prices, fines)
+    return fit_as_weights(table, prices, fines, thing)
+
+
+def fit_as_weights(table, prices, fines, thing):
+    """Return whether any object is weights, all else being known to be right; prices may be above 999."""
     if not isinstance(thing, tuple) or len(thing) != len(table):
         return False
     if not all([is_integer_to(thing[row], fines[row]) for row in range(len(table))]):
@@ -57,6 +62,6 @@ def is_paper(table, prices, fines, thing):
     if not isinstance(thing, tuple) or len(thing) != 2:
         return False
     choice, weights = thing
-    if not are_ascending(choice, len(prices)) or not are_weights(table, prices, fines, weights):
+    if not are_ascending(choice, len(prices)) or not fit_as_weights(table, prices, fines, weights):
         return False
     return cost_of(table, prices, fines, choice) == sum(weights)

@@ -1,6 +1,6 @@
 """The go: a paper made by an arrangement, row by row and then column by column."""
 
-from ticklay.arrangements import is_arrangement
+from ticklay.arrangements import find_arrangement, is_arrangement
 from ticklay.choices import check_amounts
 from ticklay.errors import InvalidArrangement
 from ticklay.tables import TICK, had
@@ -11,7 +11,20 @@ def go(table, prices, fines, arrangement):
     check_amounts(table, prices, fines)
     if not is_arrangement(table, arrangement):
         raise InvalidArrangement("this is no arrangement of the table")
-    rows, columns = arrangement
+    return go_along(table, prices, fines, arrangement)
+
+
+def find_paper(table, prices, fines):
+    """Return any paper, all being known to be right, or None if the table has a ring; prices may be above 999."""
+    order = find_arrangement(table)
+    if order is None:
+        return None
+    return go_along(table, prices, fines, order)
+
+
+def go_along(table, prices, fines, order):
+    """Return what an arrangement makes, all being known to be right; prices may be above 999."""
+    rows, columns = order
     left = prices
     weights = [0] * len(table)
     for row in rows:

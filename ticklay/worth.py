@@ -1,16 +1,22 @@
 """What a column is worth, and the columns of the choices that cost least."""
 
+from ticklay.changes import with_item
 from ticklay.checks import is_index
 from ticklay.choices import all_choices, check_amounts, cost_of
 from ticklay.errors import InvalidIndex
 
 
-def worth(table, prices, fines, column):
-    """Return the least cost without a column less the least cost with it, its price not counted."""
+def check_column(table, prices, fines, column):
+    """Raise an error for any objects that are no table, no prices or no fines of it, or no index of a column."""
     check_amounts(table, prices, fines)
     if not is_index(column, len(prices)):
         raise InvalidIndex("there is no such column")
-    unpriced = prices[:column] + (0,) + prices[column + 1:]
+
+
+def worth(table, prices, fines, column):
+    """Return the least cost without a column less the least cost with it, its price not counted."""
+    check_column(table, prices, fines, column)
+    unpriced = with_item(prices, column, 0)
     choices = all_choices(len(prices))
     without = [cost_of(table, unpriced, fines, choice) for choice in choices if column not in choice]
     having = [cost_of(table, unpriced, fines, choice) for choice in choices if column in choice]
