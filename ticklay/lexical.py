@@ -41,4 +41,5 @@ def sorted_lines(table, lines, places):
     """
     back = places[::-1]
     # A tick is written with a greater sign than a blank, so the texts compare as lines do.
-    return tuple([line for _, line in sorted([(signs_at(table[line], back), line) for line in lines])])
+    told = sorted([(signs_at(table[line], back), line) for line in lines])
+    return tuple([line for _, line in told])

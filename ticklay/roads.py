@@ -36,4 +36,5 @@ def ball_order(tree, balls):
 
 def ascending_by(numbers):
     """Return the tuple of the indexes of some numbers, least number first, of equal ones lesser index first."""
-    return tuple([at for _, at in sorted([(numbers[at], at) for at in range(len(numbers))])])
+    told = sorted([(numbers[at], at) for at in range(len(numbers))])
+    return tuple([at for _, at in told])
